@@ -1,0 +1,1 @@
+"""Claims on figures of the plane: always or not."""
