@@ -49,13 +49,14 @@ def claim_laid(sheet, name):
 
 def _way_sizes(ways):
     sizes = {}
-    for name, _, rows, _ in ways:
-        sizes[name] = _rows_size(rows, sizes)
+    for way in ways:
+        sizes[way[0]] = _rows_size(way[2], sizes)
     return sizes
 
 
 def _rows_size(rows, sizes):
-    return sum([sizes[step[1]] if step[0] == "use" else 1 for _, step in rows])
+    steps = [row[1] for row in rows]
+    return sum([sizes[step[1]] if step[0] == "use" else 1 for step in steps])
 
 
 def _laid_sheet(sheet):

@@ -4,11 +4,18 @@ Sheets name points by names, figures by numbers: is_point tells whether a
 member of a step or a claim may stand there as a point.
 """
 
-from figureclaims.words import claim_points, is_integer, is_number, step_integers, step_points
+from figureclaims.errors import BadTree
+from figureclaims.words import claim_points, is_integer, step_integers, step_points
 
 
 def is_tuple_of(value, many):
     return isinstance(value, tuple) and len(value) == many
+
+
+def tell_fault(fault, path):
+    """Raise the path of a fault, if there is one, in the part to which path leads."""
+    if fault is not None:
+        raise BadTree(path + fault)
 
 
 def step_fault(value, is_point):
@@ -26,7 +33,7 @@ def step_fault(value, is_point):
         if not is_integer(value[k]):
             return (k,)
     # Only the last number of part is one that things are divided by.
-    if word == "part" and not (is_number(value[4]) and value[4] >= 1):
+    if word == "part" and value[4] < 1:
         return (4,)
     return None
 

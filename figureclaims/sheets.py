@@ -1,7 +1,7 @@
 """Sheets: their first wrong part, and their parts by name and by word."""
 
 from figureclaims.errors import BadTree, UnknownName
-from figureclaims.members import claim_fault, is_tuple_of, step_fault
+from figureclaims.members import claim_fault, is_tuple_of, step_fault, tell_fault
 from figureclaims.words import is_fraction, is_name
 
 
@@ -29,12 +29,6 @@ def names_of(sheet, word):
 def _need(right, path):
     if not right:
         raise BadTree(path)
-
-
-def _tell(fault, path):
-    """Raise the path of a fault, if there is one, in the part to which path leads."""
-    if fault is not None:
-        raise BadTree(path + fault)
 
 
 def _checked_ways(ways):
@@ -82,7 +76,7 @@ def _check_row(row, path, there, wants_of):
     if is_tuple_of(step, 3) and step[0] == "use":
         _check_use(step, path + (1,), there, wants_of)
     else:
-        _tell(step_fault(step, lambda member: _is_there(member, there)), path + (1,))
+        tell_fault(step_fault(step, lambda member: _is_there(member, there)), path + (1,))
 
 
 def _check_use(use, path, there, wants_of):
@@ -107,7 +101,7 @@ def _check_parts(parts, there):
         _need(is_name(name) and name not in earlier, (2, k, 1))
         earlier[name] = True
         if word == "claim":
-            _tell(claim_fault(told, lambda member: _is_there(member, there)), (2, k, 2))
+            tell_fault(claim_fault(told, lambda member: _is_there(member, there)), (2, k, 2))
         else:
             _check_fractions(told, (2, k, 2))
 

@@ -65,3 +65,10 @@ def claim_points(word):
 def step_integers(word):
     """How many integers a step word has behind its points."""
     return 2 if word in ("at", "part") else 0
+
+
+def step_parameters(word):
+    """How many parameters a step with a step word has."""
+    if word == "free":
+        return 2
+    return 1 if word in ("on", "round") else 0

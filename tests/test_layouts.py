@@ -3,7 +3,7 @@ import unittest
 from figureclaims.errors import TooGreat, UnknownName
 from figureclaims.layouts import claim_laid, figure_of, place_named, places_of, size_of
 from figureclaims.sheets import check_sheet
-from tests.helpers import OTHER_KINDS, raised
+from tests.helpers import OTHER_KINDS, put, raised
 
 HALF = ("half", ("a", "b"), (("m", ("part", "a", "b", 1, 2)),), "m")
 NONE = ("none", ("a", "b"), (), "b")
@@ -156,6 +156,15 @@ class TooGreatTest(unittest.TestCase):
         self.fits(sheet, 400)
         self.assertEqual(places_of(sheet), tuple(range(7, 400, 20)))
         self.is_too_great(((way,), uses + (("q", ("free",)),), parts), 401, "p3", "c")
+
+    def test_just_so_by_one_use(self):
+        small = ("v", (), free_rows(20), "p7")
+        great = ("w", (), tuple([("p%d" % k, ("use", "v", ())) for k in range(20)]), "p3")
+        parts = (("claim", "c", ("same", "q", "q")),)
+        sheet = ((small, great), (("q", ("use", "w", ())),), parts)
+        self.fits(sheet, 400)
+        self.assertEqual(places_of(sheet), (67,))
+        self.is_too_great(put(sheet, (0, 0, 2), free_rows(21)), 420, "q", "c")
 
     def test_a_use_that_makes_nothing_more(self):
         rows = free_rows(400) + (("q", ("use", "none", ("p3", "p7"))),)
