@@ -27,6 +27,15 @@ def check_claim(figure, value):
     tell_fault(claim_fault(value, _earlier_than(len(figure))), ())
 
 
+def is_position(figure, value):
+    """Whether a value, which may be anything, is a position of a figure."""
+    try:
+        check_position(figure, value)
+    except BadTree:
+        return False
+    return True
+
+
 def parameters_of(figure):
     """How many parameters a figure has."""
     return sum([step_parameters(step[0]) for step in figure])
