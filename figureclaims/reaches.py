@@ -1,20 +1,17 @@
 """Reaches: the greatest degrees and the greatest height of a figure and of claims on it."""
 
 from figureclaims.figures import parameters_of
-from figureclaims.table import degree_said, height_said, point_degrees, point_heights, terms
+from figureclaims.table import degrees_said, heights_said, point_degrees, point_heights, terms
 
 
 def reach_of(figure, claims):
     """The reach of a figure and of some claims on it, a pair of a degree and a height."""
     degrees = point_degrees(figure)
     heights = point_heights(figure)
-    said = [(claim[0], claim[1:]) for claim in claims]
-    all_degrees = degrees + [degree_said(word, [degrees[p] for p in points]) for word, points in said]
-    all_heights = heights + [height_said(word, [heights[p] for p in points]) for word, points in said]
-    return (
-        tuple([max([degree[k] for degree in all_degrees]) for k in range(parameters_of(figure))]),
-        max(all_heights, default=1),
-    )
+    degrees = degrees + degrees_said(degrees, claims)
+    heights = heights + heights_said(heights, claims)
+    most = tuple([max([degree[k] for degree in degrees]) for k in range(parameters_of(figure))])
+    return most, max(heights, default=1)
 
 
 def joined(one, other):
@@ -28,5 +25,5 @@ def is_within(one, other):
 
 
 def size_of(reach):
-    """How many binary figures the witness of a reach needs at most."""
+    """How many binary figures 1 more than the height has, for each term of the degree."""
     return (reach[1] + 1).bit_length() * terms(reach[0])

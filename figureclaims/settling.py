@@ -3,17 +3,14 @@
 from figureclaims.coordinates import first_nought, point_triples, said_of
 from figureclaims.figures import parameters_of
 from figureclaims.putting import columns_of, is_nought_with, put_in
-from figureclaims.table import degree_said, point_degrees, refuse_great
+from figureclaims.table import degrees_said, point_degrees, refuse_great
 
 
 def grid(figure, claims):
     """For each parameter the number to which the grid of a figure and some claims goes."""
     degrees = point_degrees(figure)
-    said = [degree_said(claim[0], [degrees[p] for p in claim[1:]]) for claim in claims]
-    return tuple([
-        sum([degree[k] for degree in degrees + said])
-        for k in range(parameters_of(figure))
-    ])
+    degrees = degrees + degrees_said(degrees, claims)
+    return tuple([sum([degree[k] for degree in degrees]) for k in range(parameters_of(figure))])
 
 
 def settle(figure, claim):

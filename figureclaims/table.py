@@ -52,14 +52,12 @@ def point_heights(figure):
 
 def claim_degree(figure, claim):
     """The degree of a claim on a figure."""
-    degrees = point_degrees(figure)
-    return degree_said(claim[0], [degrees[p] for p in claim[1:]])
+    return degrees_said(point_degrees(figure), (claim,))[0]
 
 
 def claim_height(figure, claim):
     """The height of a claim on a figure."""
-    heights = point_heights(figure)
-    return height_said(claim[0], [heights[p] for p in claim[1:]])
+    return heights_said(point_heights(figure), (claim,))[0]
 
 
 def terms(degree):
@@ -94,11 +92,20 @@ def height_said(word, heights):
     return FACTORS[word] * _multiplied(heights, COUNTS[word])
 
 
+def degrees_said(degrees, claims):
+    """The list of the degrees of some claims, by those of all points."""
+    return [degree_said(claim[0], [degrees[p] for p in claim[1:]]) for claim in claims]
+
+
+def heights_said(heights, claims):
+    """The list of the heights of some claims, by those of all points."""
+    return [height_said(claim[0], [heights[p] for p in claim[1:]]) for claim in claims]
+
+
 def refuse_great(figure, claims):
     """Raise TooGreat if a figure, or one of some claims on it, is too great."""
     degrees = point_degrees(figure)
-    said = [degree_said(claim[0], [degrees[p] for p in claim[1:]]) for claim in claims]
-    if max([terms(degree) for degree in degrees + said], default=0) > MOST_TERMS:
+    if max([terms(degree) for degree in degrees + degrees_said(degrees, claims)], default=0) > MOST_TERMS:
         raise TooGreat()
 
 
