@@ -1,8 +1,9 @@
 """What is wrong with answers to claims, and with common positions."""
 
 from figureclaims.building import holds, made
-from figureclaims.coordinates import first_nought, point_triples, said_of
-from figureclaims.figures import is_position, parameters_of
+from figureclaims.certain import first_never, holds_always
+from figureclaims.drawings import plain_drawing
+from figureclaims.figures import is_position
 from figureclaims.members import is_tuple_of
 from figureclaims.settling import grid
 from figureclaims.table import refuse_great
@@ -14,14 +15,14 @@ def judge_answer(figure, claim, value):
     refuse_great(figure, (claim,))
     if not _is_answer(figure, value):
         return ("form",)
-    triples = point_triples(figure)
-    never = first_nought(triples)
+    drawing = plain_drawing(figure)
+    never = first_never(drawing)
     if never is not None:
         return None if value == ("never", never) else ("never", never)
     if value[0] == "never":
         return ("built",)
     if value[0] == "always":
-        return ("fails",) if any(said_of(parameters_of(figure), triples, claim)) else None
+        return None if holds_always(drawing, claim) else ("fails",)
     fault = _position_fault(figure, (claim,), value[1])
     if fault is not None:
         return fault
@@ -37,10 +38,18 @@ def judge_common(figure, claims, value):
     if fault is not None:
         return fault
     places = made(figure, value)
-    triples = point_triples(figure)
+    drawing = plain_drawing(figure)
     for n, claim in enumerate(claims):
-        if holds(places, claim) and any(said_of(parameters_of(figure), triples, claim)):
+        if holds(places, claim) and not holds_always(drawing, claim):
             return ("holds", n)
+    return None
+
+
+def grid_fault(limits, position):
+    """The fault of a position that is none of the grid that goes to some numbers, or None."""
+    for k, (most, (above, below)) in enumerate(zip(limits, position)):
+        if below != 1 or not 0 <= above <= most:
+            return ("grid", k)
     return None
 
 
@@ -56,8 +65,8 @@ def _is_answer(figure, value):
 
 def _position_fault(figure, claims, position):
     """The fault of a position that is none of the grid, or at which the figure is not built."""
-    for k, (most, (above, below)) in enumerate(zip(grid(figure, claims), position)):
-        if below != 1 or not 0 <= above <= most:
-            return ("grid", k)
+    fault = grid_fault(grid(figure, claims), position)
+    if fault is not None:
+        return fault
     many = len(made(figure, position))
     return ("step", many) if many < len(figure) else None

@@ -1,23 +1,18 @@
 """Figures built at positions, and what claims say of the places."""
 
 from figureclaims.errors import NotBuilt
-from figureclaims.figures import named
-from figureclaims.making import step_triple
+from figureclaims.figures import with_own
+from figureclaims.making import step_made
 from figureclaims.meaning import claim_holds
 from figureclaims.vectors import place_at, triple_at
-from figureclaims.words import step_parameters
 
 
 def made(figure, position):
     """The places ahead of the first step that can't be done at a position, or all."""
     places = []
     triples = []
-    told = 0
-    for step in figure:
-        word, points = step[0], named(step)
-        ours = position[told:told + step_parameters(word)]
-        told += len(ours)
-        triple = step_triple(word, [triples[p] for p in points], step[1 + len(points):], ours)
+    for step, own in with_own(figure, position):
+        triple = step_made(step, triples, own)
         if triple[2] == 0:
             return places
         places.append(place_at(triple))

@@ -41,9 +41,25 @@ def parameters_of(figure):
     return sum([step_parameters(step[0]) for step in figure])
 
 
+def whole_position(numbers):
+    """The position that has some integers."""
+    return tuple([(number, 1) for number in numbers])
+
+
 def named(step):
     """The tuple of the points that a step names, each as often as it stands there."""
     return step[1:1 + step_points(step[0])]
+
+
+def with_own(figure, worths):
+    """The list of the pairs of each step and of its own parameters' worths, which stand step by step."""
+    pairs = []
+    told = 0
+    for step in figure:
+        own = worths[told:told + step_parameters(step[0])]
+        told += len(own)
+        pairs.append((step, own))
+    return pairs
 
 
 def _earlier_than(many):

@@ -4,6 +4,7 @@ If the W of those points are not 0, a step can be done just if the W that it
 makes is not 0 either.
 """
 
+from figureclaims.figures import named
 from figureclaims.vectors import between, crossed, dot, put_into, square
 
 
@@ -12,6 +13,12 @@ def step_triple(word, points, integers, parameters):
     maker = MAKERS[word]
     told = [*points, *integers, *parameters]
     return maker(*told)
+
+
+def step_made(step, triples, parameters):
+    """What a step makes of its own parameters, and of those of all points' triples that it names."""
+    points = named(step)
+    return step_triple(step[0], [triples[p] for p in points], step[1 + len(points):], parameters)
 
 
 def _at(x, y):

@@ -1,7 +1,7 @@
 """Moves (p, q, x, y): they turn and stretch places by p and q, and shift them by x and y."""
 
+from figureclaims.figures import with_own
 from figureclaims.fractions import minus, plus, times
-from figureclaims.words import step_parameters
 
 
 def moved_place(move, place):
@@ -17,9 +17,8 @@ def moved_place(move, place):
 def moved_position(figure, move, position):
     """The position at which the moved figure has all its places where the move takes them."""
     moved = []
-    for step in figure:
-        ours = position[len(moved):len(moved) + step_parameters(step[0])]
-        moved.extend(moved_place(move, ours) if step[0] == "free" else ours)
+    for step, own in with_own(figure, position):
+        moved.extend(moved_place(move, own) if step[0] == "free" else own)
     return tuple(moved)
 
 

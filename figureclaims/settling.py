@@ -1,7 +1,9 @@
 """Claims settled: at every position, at a told one not, or the figure at none."""
 
-from figureclaims.coordinates import first_nought, point_triples, said_of
-from figureclaims.figures import parameters_of
+from figureclaims.certain import first_never, holds_always, place_without
+from figureclaims.coordinates import claim_polynomials, point_triples
+from figureclaims.drawings import plain_drawing
+from figureclaims.figures import parameters_of, whole_position
 from figureclaims.putting import columns_of, is_nought_with, put_in
 from figureclaims.table import degrees_said, point_degrees, refuse_great
 
@@ -16,53 +18,46 @@ def grid(figure, claims):
 def settle(figure, claim):
     """A right answer for a claim."""
     refuse_great(figure, (claim,))
-    triples = point_triples(figure)
-    never = first_nought(triples)
+    drawing = plain_drawing(figure)
+    never = first_never(drawing)
     if never is not None:
         return "never", never
-    said = said_of(parameters_of(figure), triples, claim)
-    if not any(said):
+    if holds_always(drawing, claim):
         return ("always",)
-    return "not", _least_place(triples, [said], parameters_of(figure))
+    return "not", whole_position(place_without(drawing, [claim]))
 
 
 def least_position(figure, claim):
     """The least position at which a figure is built and a claim fails, or None."""
-    answer = settle(figure, claim)
-    return answer[1] if answer[0] == "not" else None
+    refuse_great(figure, (claim,))
+    drawing = plain_drawing(figure)
+    if first_never(drawing) is not None or holds_always(drawing, claim):
+        return None
+    lots = [(w,) for _, _, w in point_triples(figure)] + [claim_polynomials(figure, claim)]
+    place = []
+    for _ in range(parameters_of(figure)):
+        # Put in for this parameter, each lesser number would leave nothing of some lot.
+        n = _least_number(lots)
+        place.append(n)
+        lots = [tuple([put_in(p, 0, n) for p in lot]) for lot in lots]
+    return whole_position(place)
 
 
 def always(figure, claims):
     """The numbers of those claims that always hold, of a figure that can be built somewhere."""
     refuse_great(figure, claims)
-    triples = point_triples(figure)
-    m = parameters_of(figure)
-    return [k for k, claim in enumerate(claims) if not any(said_of(m, triples, claim))]
+    drawing = plain_drawing(figure)
+    return [k for k, claim in enumerate(claims) if holds_always(drawing, claim)]
 
 
 def common_position(figure, claims):
     """A position at which a figure is built and just those claims hold that always do, or None."""
     refuse_great(figure, claims)
-    triples = point_triples(figure)
-    if first_nought(triples) is not None:
+    drawing = plain_drawing(figure)
+    if first_never(drawing) is not None:
         return None
-    m = parameters_of(figure)
-    said = [said_of(m, triples, claim) for claim in claims]
-    return _least_place(triples, [lot for lot in said if any(lot)], m)
-
-
-def _least_place(triples, lots, m):
-    """The least position at which no W is 0, and not all polynomials of any of these lots.
-
-    Each parameter is the least number that leaves something of each of them.
-    """
-    lots = [(w,) for _, _, w in triples] + lots
-    place = []
-    for _ in range(m):
-        n = _least_number(lots)
-        place.append((n, 1))
-        lots = [tuple([put_in(p, 0, n) for p in lot]) for lot in lots]
-    return tuple(place)
+    failing = [claim for claim in claims if not holds_always(drawing, claim)]
+    return whole_position(place_without(drawing, failing))
 
 
 def _least_number(lots):

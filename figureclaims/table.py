@@ -5,8 +5,8 @@ points counts: degrees are added so often, and heights taken times one another.
 """
 
 from figureclaims.errors import TooGreat
-from figureclaims.figures import named, parameters_of
-from figureclaims.words import step_parameters
+from figureclaims.figures import named, parameters_of, with_own
+from figureclaims.words import is_integer
 
 MOST_TERMS = 20000
 
@@ -35,10 +35,8 @@ def point_degrees(figure):
     """The list of the degrees of all points of a figure."""
     m = parameters_of(figure)
     degrees = []
-    first = 0
-    for step in figure:
-        degrees.append(step_degree(step, [degrees[p] for p in named(step)], first, m))
-        first += step_parameters(step[0])
+    for step, own in with_own(figure, list(range(m))):
+        degrees.append(step_degree(step, [degrees[p] for p in named(step)], own, m))
     return degrees
 
 
@@ -68,18 +66,32 @@ def terms(degree):
     return many
 
 
-def step_degree(step, degrees, first, m):
-    """The degree of what a step makes of points, its first one of m parameters being told."""
+def step_degree(step, degrees, own, m):
+    """The degree in m unknowns of what a step makes of points and of its own parameters.
+
+    Those are told by the numbers of their unknowns; one that is a fraction has no degree.
+    """
     word = step[0]
-    own = [0] * m
-    for k in range(first, first + step_parameters(word)):
-        own[k] = 2 if word == "round" else 1
-    return _added([tuple(own), *degrees], (1,) + COUNTS[word])
+    mine = [0] * m
+    for worth in own:
+        if is_integer(worth):
+            mine[worth] = parameter_degree(word)
+    return _added([tuple(mine), *degrees], (1,) + COUNTS[word])
 
 
 def step_height(step, heights):
     """The height of what a step makes of points."""
-    return _factor(step) * _multiplied(heights, COUNTS[step[0]])
+    return _factor(step) * step_product(step, heights)
+
+
+def step_product(step, numbers):
+    """The product of numbers, one for each point that a step names, each as often as the point counts."""
+    return _multiplied(numbers, COUNTS[step[0]])
+
+
+def parameter_degree(word):
+    """The degree of what a step with a step word makes in each of its own parameters."""
+    return 2 if word == "round" else 1
 
 
 def degree_said(word, degrees):
