@@ -13,6 +13,22 @@ def check_sheet(value):
     _check_parts(value[2], there)
 
 
+def is_sheet(value):
+    """Whether a value, which may be anything, is a sheet."""
+    return _passes(lambda: check_sheet(value))
+
+
+def is_next_row(sheet, value):
+    """Whether a value, which may be anything, may stand as a row behind those of a sheet."""
+    wants_of = {way[0]: len(way[1]) for way in sheet[0]}
+    return _passes(lambda: _check_row(value, (), _names_there(sheet), wants_of))
+
+
+def is_only_part(sheet, value):
+    """Whether a value, which may be anything, may stand in a sheet as its one part."""
+    return _passes(lambda: _check_parts((value,), _names_there(sheet)))
+
+
 def part_named(sheet, name):
     """The part of a sheet with a name, which may be anything."""
     for part in sheet[2]:
@@ -24,6 +40,20 @@ def part_named(sheet, name):
 def names_of(sheet, word):
     """The names of all parts of a sheet that begin with a word, in their order."""
     return [part[1] for part in sheet[2] if part[0] == word]
+
+
+def _passes(check):
+    """Whether a check raises no BadTree."""
+    try:
+        check()
+    except BadTree:
+        return False
+    return True
+
+
+def _names_there(sheet):
+    """The names of a sheet's rows, as a dict."""
+    return {row[0]: True for row in sheet[1]}
 
 
 def _need(right, path):

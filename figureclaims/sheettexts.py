@@ -1,8 +1,8 @@
 """The texts of sheets, of claims and of fractions: written, and read."""
 
+from figureclaims.forms import take_claim, take_numbers, take_triple
 from figureclaims.reading import Reader
 from figureclaims.sheets import check_sheet
-from figureclaims.words import claim_points, step_integers, step_points
 
 
 def sheet_text(sheet):
@@ -30,7 +30,7 @@ def fractions_text(numbers):
 def read_sheet(text):
     """The sheet that a text tells."""
     reader = Reader(text)
-    told = _read_triple(reader)
+    told = take_triple(reader)
     reader.finish()
     check_sheet(told)
     return told
@@ -39,7 +39,7 @@ def read_sheet(text):
 def read_claim(text):
     """The named claim that a text tells, whatever its names are."""
     reader = Reader(text)
-    claim = _read_claim(reader)
+    claim = take_claim(reader)
     reader.finish()
     return claim
 
@@ -47,7 +47,7 @@ def read_claim(text):
 def read_fractions(text):
     """The pairs that a text tells, be they fractions in least form or not."""
     reader = Reader(text)
-    numbers = _read_numbers(reader)
+    numbers = take_numbers(reader)
     reader.finish()
     return numbers
 
@@ -85,97 +85,3 @@ def _part_line(part):
 
 def _fraction_text(above, below):
     return str(above) if below == 1 else f"{above}/{below}"
-
-
-def _read_triple(reader):
-    reader.take("sheet")
-    reader.take("{")
-    ways = []
-    while reader.sees("way"):
-        ways.append(_read_way(reader))
-    rows = _read_rows(reader)
-    parts = []
-    while reader.sees("claim") or reader.sees("position"):
-        parts.append(_read_part(reader))
-    reader.take("}")
-    return tuple(ways), rows, tuple(parts)
-
-
-def _read_way(reader):
-    reader.take("way")
-    name = reader.take_name()
-    wants = reader.take_all_names()
-    reader.take("{")
-    rows = _read_rows(reader)
-    reader.take("give")
-    given = reader.take_name()
-    reader.take(";")
-    reader.take("}")
-    return name, wants, rows, given
-
-
-def _read_rows(reader):
-    rows = []
-    while reader.sees("point"):
-        reader.take("point")
-        rows.append((reader.take_name(), _read_step(reader)))
-        reader.take(";")
-    return tuple(rows)
-
-
-def _read_step(reader):
-    word = reader.seen()
-    if word == "use":
-        reader.take("use")
-        return "use", reader.take_name(), reader.take_all_names()
-    points = step_points(word)
-    if points is None:
-        reader.fail()
-    reader.take(word)
-    return (word,) + reader.take_names(points) + _read_integers(reader, word)
-
-
-def _read_integers(reader, word):
-    """What a step with a step word has behind its points."""
-    if step_integers(word) == 0:
-        return ()
-    first = reader.take_integer()
-    if word == "part":
-        reader.take("/")
-        return first, reader.take_numeral()
-    return first, reader.take_integer()
-
-
-def _read_part(reader):
-    word = reader.take_name()
-    name = reader.take_name()
-    told = _read_claim(reader) if word == "claim" else _read_numbers(reader)
-    reader.take(";")
-    return word, name, told
-
-
-def _read_claim(reader):
-    word = reader.seen()
-    points = claim_points(word)
-    if points is None:
-        reader.fail()
-    reader.take(word)
-    return (word,) + reader.take_names(points)
-
-
-def _read_numbers(reader):
-    if not (reader.sees("-") or reader.sees_sort("numeral")):
-        return ()
-    numbers = [_read_number(reader)]
-    while reader.sees(","):
-        reader.take(",")
-        numbers.append(_read_number(reader))
-    return tuple(numbers)
-
-
-def _read_number(reader):
-    above = reader.take_integer()
-    if not reader.sees("/"):
-        return above, 1
-    reader.take("/")
-    return above, reader.take_numeral()

@@ -60,6 +60,43 @@ FUNCTIONS = {
     "reaches": {
         "reach_of": "figure claims", "joined": "one other", "is_within": "one other", "size_of": "reach",
     },
+    "witnesses": {
+        "witness": "reach", "triples_at": "figure numbers", "holds_at": "triples claim", "settled": "figure claim",
+        "all_settled": "figure claims",
+    },
+    "fixing": {"can_fix": "figure", "fixed": "figure"},
+    "books": {
+        "list_claims": "figure", "list_reach": "figure", "book": "figure", "shows": "told claim",
+        "news": "figure k", "book_claims": "told",
+    },
+    "leavings": {
+        "check_leaving": "figure value", "under": "figure leaving", "blocked": "figure leaving", "slope": "p k",
+        "spread": "figure leaving point u v",
+    },
+    "paths": {
+        "kind_of": "figure leaving point", "kinds": "figure leaving", "path_numbers": "figure leaving point",
+        "path_paper": "figure leaving point", "judge_path": "figure leaving point value",
+    },
+    "twofigures": {
+        "pair_grid": "one other pairs", "settle_pair": "one other a b", "judge_pair": "one other a b value",
+        "agreements": "one other", "are_alike": "one other", "parting": "one other",
+        "judge_parting": "one other value",
+    },
+    "shortening": {"twins": "figure", "shortened": "figure"},
+    "menus": {
+        "menu": "points", "lengthened": "figure steps", "makes": "figure known z steps", "fewest": "figure known z",
+        "shortest": "figure known z",
+    },
+}
+
+# The classes, by their modules, with the arguments of each method behind the object.
+CLASSES = {
+    ("desk", "Desk"): {
+        "__init__": "", "sheet": "", "act_word": "act", "do": "act", "undo": "", "redo": "", "acts": "",
+        "answer": "claim", "holds_at": "claim position", "where": "point position", "always": "", "work": "",
+        "mark": "name", "since": "name", "marks": "", "twin": "",
+    },
+    ("console", "Console"): {"__init__": "desk", "answer": "line"},
 }
 
 
@@ -71,3 +108,13 @@ class InterfaceTest(unittest.TestCase):
                 function = getattr(there, name)
                 self.assertEqual(function.__module__, there.__name__, name)
                 self.assertEqual(list(inspect.signature(function).parameters), arguments.split(), name)
+
+    def test_each_method_stands_in_its_class(self):
+        for (module, name), methods in CLASSES.items():
+            there = importlib.import_module("figureclaims." + module)
+            made = getattr(there, name)
+            self.assertEqual(made.__module__, there.__name__)
+            for method, arguments in methods.items():
+                self.assertIn(method, vars(made))
+                parameters = list(inspect.signature(vars(made)[method]).parameters)
+                self.assertEqual(parameters[1:], arguments.split(), method)
