@@ -11,15 +11,18 @@ from figureclaims.meaning import claim_numbers
 from figureclaims.packing import packed_triples, triple_degree, triple_height
 from figureclaims.polynomials import degrees_of
 from figureclaims.putting import put_in
-from figureclaims.rows import code_strides, width_for
+from figureclaims.rows import code_strides, times_cost, width_for
 from figureclaims.table import degree_said, height_said, terms
 from figureclaims.words import is_integer
 
 # More than one, as the numbers of a figure may be multiples of a prime.
-PRIMES = (2 ** 61 - 1, 2 ** 89 - 1, 2 ** 107 - 1, 2 ** 127 - 1)
+PRIMES = ((1 << 61) - 1, (1 << 89) - 1, (1 << 107) - 1, (1 << 127) - 1)
 
-# Numbers with more hexadecimal figures take longer than several lesser ones instead.
-SHORT = 6000
+# What a term costs if a number is put in, in products of digits as times_cost counts them.
+TERM_COST = 600
+
+# About so many products a claim takes.
+PRODUCTS = 4
 
 # What holds of which of the points that a step names if and only if it cannot be done.
 HINDRANCES = {
@@ -169,10 +172,22 @@ def says_nothing(m, word, points):
     """Whether all polynomials in m unknowns of a claim, by triples of such, are nought."""
     degree = degree_said(word, [triple_degree(m, triple) for triple in points])
     width = width_for(height_said(word, [triple_height(triple) for triple in points]))
-    if m == 0 or width * terms(degree) <= SHORT:
+    if m == 0 or not _is_sooner_put_in(degree, width, points):
         return not any(claim_numbers(word, packed_triples(points, code_strides(degree), width)))
     # A polynomial that is nought with more numbers put in than its degree tells is nought itself.
     for n in range(degree[0] + 1):
         if not says_nothing(m - 1, word, [tuple([put_in(p, 0, n) for p in triple]) for triple in points]):
             return False
     return True
+
+
+def _is_sooner_put_in(degree, width, points):
+    """Whether numbers are put in for the first unknown sooner than all is worked out at once.
+
+    points are triples of polynomials; a claim has a degree, and numbers so wide.
+    """
+    figures = width * terms(degree)
+    many = degree[0] + 1
+    count = sum([len(p) for triple in points for p in triple])
+    each = count * (TERM_COST + times_cost(width)) + PRODUCTS * times_cost(figures // many)
+    return many * each < PRODUCTS * times_cost(figures)

@@ -58,6 +58,20 @@ def row_times(one, other):
     return _times_by_terms(one, other)
 
 
+def times_cost(figures):
+    """About how long it takes to multiply two numbers of so many hexadecimal figures.
+
+    It is told in products of single digits, each of 30 binary figures, of which Python makes
+    long numbers: above some 70 digits three products of half as many digits stand for one.
+    """
+    digits = figures * 2 // 15 + 1
+    parts = 1
+    while digits > 70:
+        digits = (digits + 1) // 2
+        parts = parts * 3
+    return parts * digits * digits
+
+
 def width_for(size):
     """How many hexadecimal figures numbers of at most this size, with a sign, need."""
     return size.bit_length() // 4 + 1

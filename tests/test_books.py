@@ -125,6 +125,12 @@ class ListTest(unittest.TestCase):
         self.assertEqual(list_reach((("free",),)), ((1, 1), 1))
         self.assertEqual(list_reach((("free",), ("at", 3, 0))), ((1, 1), 6))
         self.assertEqual(list_reach(Q), reach_of(Q, list_claims(Q)))
+        # Of points with one height a circle has the greatest one, else mostly a long.
+        self.assertEqual(list_reach((("free",),) * 4), ((4,) * 8, 48))
+        self.assertEqual(list_reach((("free",),) * 3), ((4,) * 6, 16))
+        for heights in [(7, 7, 7, 7), (7, 7, 7, 1), (2, 7, 7, 5), (7, 4, 4, 4), (9, 5, 5, 5), (1, 8, 3, 5, 8), (3, 9, 9)]:
+            figure = tuple([("at", height, 1) for height in heights])
+            self.assertEqual(list_reach(figure), reach_of(figure, list_claims(figure)))
 
     def test_reach_of_drawn_figures(self):
         source = random.Random(229)
@@ -371,12 +377,11 @@ class LimitsTest(unittest.TestCase):
                 self.assertIn(book(heights[size])[0], ("book", "never"))
 
     def test_just_at_the_size(self):
-        for power, whether in [(14998, False), (14999, True)]:
-            # 16 * x ** 4, and x a power of two: 4 * power + 5 binary figures.
-            figure = (("at", 0, 0), ("at", 2 ** power, 0), ("at", 0, 1))
-            self.assertEqual(size_of(list_reach(figure)), 4 * power + 5)
-            self.assertEqual(4 * power + 5 > 60000, whether)
-            if whether:
+        # No parameters: the size is how many binary figures 16 * x ** 4 + 1 has.
+        for x, size in [(2 ** 14998, 59997), (2 ** 14999 - 1, 60000), (2 ** 14999, 60001)]:
+            figure = (("at", 0, 0), ("at", x, 0), ("at", 0, 1))
+            self.assertEqual(size_of(list_reach(figure)), size)
+            if size > 60000:
                 self.is_too_great(book, figure)
                 self.is_too_great(news, figure, 2)
                 self.assertEqual(news(figure, 1), ("new", (), (), ()))
