@@ -15,8 +15,11 @@ from figureclaims.rows import code_strides, times_cost, width_for
 from figureclaims.table import degree_said, height_said, terms
 from figureclaims.words import is_integer
 
-# More than one, as the numbers of a figure may be multiples of a prime.
-PRIMES = ((1 << 61) - 1, (1 << 89) - 1, (1 << 107) - 1, (1 << 127) - 1)
+# 1 less than the powers 61, 89, 107 and 127 of 2: more than one, as numbers may be multiples of a prime.
+PRIMES = (
+    2305843009213693951, 618970019642690137449562111, 162259276829213363391578010288127,
+    170141183460469231731687303715884105727,
+)
 
 # What a term costs if a number is put in, in products of digits as times_cost counts them.
 TERM_COST = 600
@@ -84,9 +87,10 @@ class Guess:
 def guess_of(seed, many):
     """A guess for so many unknowns, another one for each seed."""
     numbers = []
-    number = seed + 1
+    number = seed + 6364136223846793005
     for _ in range(many):
-        number = (number * 6364136223846793005 + 1442695040888963407) % PRIMES[0]
+        # Not just times a number: points that run straight ahead would stand on one line for all guesses.
+        number = (number * number * number + 1442695040888963407) % PRIMES[0]
         numbers.append(number)
     return Guess(tuple(numbers), PRIMES[seed % len(PRIMES)])
 
